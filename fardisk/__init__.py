@@ -1,0 +1,1 @@
+"""A disk given over a line: the target's end of iSCSI, after RFC 7143."""

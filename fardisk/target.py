@@ -1,0 +1,81 @@
+"""The target's end: the calls on one disk and its four lines."""
+
+from fardisk.disk import Disk
+from fardisk.reading import take_octets
+from fardisk.session import Session
+from fardisk.turn import TooMuch, Turn
+
+LINES = 4
+MOST_TAKEN = 65536
+MOST_GIVEN = 4194304
+
+IT_BEGIN = 0
+IT_OPEN = 1
+IT_RECV = 2
+
+
+class UnknownCall(ValueError):
+    pass
+
+
+def is_line(line):
+    return 0 <= line < LINES
+
+
+class Target:
+    def __init__(self):
+        self.disk = Disk()
+        # A closed line is None.
+        self.sessions = [None] * LINES
+
+    def it_open(self, line):
+        if not is_line(line):
+            return [-2]
+        self.sessions[line] = Session(line)
+        return [0]
+
+    def it_recv(self, line, most, octets):
+        if not is_line(line) or len(octets) > MOST_TAKEN or most > MOST_GIVEN:
+            return [-2]
+        if self.sessions[line] is None:
+            return [-9]
+        turn = self.new_turn(line, most)
+        try:
+            take_octets(turn, octets)
+        except TooMuch:
+            return [-5]
+        self.keep(turn, line)
+        return [len(turn.sent)] + turn.sent
+
+    def new_turn(self, line, most):
+        sessions = [None if session is None else session.twin() for session in self.sessions]
+        return Turn(self.disk.twin(), sessions, line, most)
+
+    def keep(self, turn, line):
+        self.disk = turn.disk
+        self.sessions = turn.sessions
+        if turn.session.closed:
+            self.sessions[line] = None
+
+
+def answers(calls):
+    target = Target()
+    told = []
+    at = 0
+    while at < len(calls):
+        if calls[at] == IT_BEGIN:
+            target = Target()
+            answer = [0]
+            at = at + 1
+        elif calls[at] == IT_OPEN:
+            answer = target.it_open(calls[at + 1])
+            at = at + 2
+        elif calls[at] == IT_RECV:
+            end = at + 4 + calls[at + 3]
+            answer = target.it_recv(calls[at + 1], calls[at + 2], calls[at + 4:end])
+            at = end
+        else:
+            raise UnknownCall()
+        told.append(len(answer))
+        told.extend(answer)
+    return told
