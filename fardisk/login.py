@@ -128,7 +128,7 @@ def refuse(turn, header, detail):
     answer[36] = REFUSED
     answer[37] = detail
     turn.send_counted(answer, [])
-    turn.session.closed = True
+    turn.session.close()
 
 
 # The stage changes only behind the answer: that one has no sums yet.

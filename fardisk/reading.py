@@ -71,7 +71,7 @@ def take_octets(turn, octets):
         size = packet_size(session, held[at:at + HEADER_SIZE])
         packet = held[at:at + size]
         if packet_wrong(session, packet, size):
-            session.closed = True
+            session.close()
         elif len(packet) < size:
             break
         else:

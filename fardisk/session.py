@@ -42,9 +42,17 @@ class Session:
         other.anew = self.anew
         other.settings = dict(self.settings)
         other.seen_keys = dict(self.seen_keys)
-        for tag, task in self.tasks.items():
-            other.tasks[tag] = task.twin()
+        other.tasks = self.twin_tasks()
         return other
+
+    def twin_tasks(self):
+        twins = {}
+        for tag, task in self.tasks.items():
+            twins[tag] = task.twin()
+        return twins
+
+    def close(self):
+        self.closed = True
 
     def at_work(self):
         return self.stage == WORK

@@ -52,6 +52,7 @@ class Turn:
         self.send(header, [])
 
     def send_counted(self, header, data):
-        put_number(header, 24, 4, self.session.count)
+        session = self.session
+        put_number(header, 24, 4, session.count)
         self.send(header, data)
-        self.session.count = (self.session.count + 1) % NUMBERS
+        session.count = (session.count + 1) % NUMBERS

@@ -100,7 +100,7 @@ def take_logout(turn, header):
     put_number(answer, 40, 2, WAIT_SECONDS)
     turn.send_counted(answer, [])
     if leaves:
-        turn.session.closed = True
+        turn.session.close()
 
 
 def take_work(turn, header, data):

@@ -117,7 +117,7 @@ def take_data(turn, header, data):
     if task is None:
         return
     if data_wrong(task, header, data):
-        session.closed = True
+        session.close()
         return
     task.data.extend(data)
     task.pieces = task.pieces + 1
