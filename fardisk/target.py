@@ -1,6 +1,6 @@
 """The target's end: the calls on one disk and its four lines."""
 
-from fardisk.disk import Disk
+from fardisk.disk import BLOCKS, Disk
 from fardisk.reading import take_octets
 from fardisk.session import Session
 from fardisk.turn import TooMuch, Turn
@@ -12,6 +12,9 @@ MOST_GIVEN = 4194304
 IT_BEGIN = 0
 IT_OPEN = 1
 IT_RECV = 2
+IT_CLOSED = 3
+IT_BLOCK = 4
+IT_TASKS = 5
 
 
 class UnknownCall(ValueError):
@@ -47,6 +50,24 @@ class Target:
         self.keep(turn, line)
         return [len(turn.sent)] + turn.sent
 
+    def it_closed(self, line):
+        if not is_line(line):
+            return [-2]
+        return [1 if self.sessions[line] is None else 0]
+
+    def it_tasks(self, line):
+        if not is_line(line):
+            return [-2]
+        if self.sessions[line] is None:
+            return [-9]
+        return [len(self.sessions[line].tasks)]
+
+    def it_block(self, block):
+        if not 0 <= block < BLOCKS:
+            return [-2]
+        rows = self.disk.blocks_from(block, 1)
+        return [0] + rows[0]
+
     def new_turn(self, line, most):
         sessions = [None if session is None else session.twin() for session in self.sessions]
         return Turn(self.disk.twin(), sessions, line, most)
@@ -58,6 +79,19 @@ class Target:
             self.sessions[line] = None
 
 
+# The calls that one number is handed in with.
+def answer_to(target, call, number):
+    if call == IT_OPEN:
+        return target.it_open(number)
+    if call == IT_CLOSED:
+        return target.it_closed(number)
+    if call == IT_BLOCK:
+        return target.it_block(number)
+    if call == IT_TASKS:
+        return target.it_tasks(number)
+    raise UnknownCall()
+
+
 def answers(calls):
     target = Target()
     told = []
@@ -67,15 +101,13 @@ def answers(calls):
             target = Target()
             answer = [0]
             at = at + 1
-        elif calls[at] == IT_OPEN:
-            answer = target.it_open(calls[at + 1])
-            at = at + 2
         elif calls[at] == IT_RECV:
             end = at + 4 + calls[at + 3]
             answer = target.it_recv(calls[at + 1], calls[at + 2], calls[at + 4:end])
             at = end
         else:
-            raise UnknownCall()
+            answer = answer_to(target, calls[at], calls[at + 1])
+            at = at + 2
         told.append(len(answer))
         told.extend(answer)
     return told

@@ -9,6 +9,7 @@ NOBODY = 0xFFFFFFFF
 DISK = [0] * 8
 ELSEWHERE = [0, 1, 0, 0, 0, 0, 0, 0]
 ANEW = (6, 0x29)
+EMPTY = [0] * 513
 
 
 def crc_bit_by_bit(octets):
@@ -93,6 +94,11 @@ def block_command(code, first, many, lead1=0):
     return [code, lead1] + list(first.to_bytes(4, "big")) + [0] + list(many.to_bytes(2, "big"))
 
 
+def block_of(octets):
+    """What it_block answers of a block in which these stand."""
+    return [0] + list(octets)
+
+
 def split_answers(row):
     told = []
     at = 0
@@ -120,6 +126,15 @@ class Far:
 
     def recv(self, c, octets, most=3000):
         return self.answer(2, c, most, len(octets), *octets)
+
+    def closed(self, c):
+        return self.answer(3, c)
+
+    def block(self, lba):
+        return self.answer(4, lba)
+
+    def tasks(self, c):
+        return self.answer(5, c)
 
 
 class Peer:
@@ -245,6 +260,14 @@ class Peer:
 
 class Case(unittest.TestCase):
     maxDiff = None
+
+    def assertEqual(self, first, second, msg=None):
+        """As ever, but of rows only where they part is shown: to compare long ones whole may take hours."""
+        if first != second and isinstance(first, (list, tuple)) and isinstance(second, (list, tuple)):
+            for place, pair in enumerate(zip(first, second)):
+                self.assertEqual(*pair, f"at {place}: {msg}")
+            super().assertEqual(len(first), len(second), msg)
+        super().assertEqual(first, second, msg)
 
     def peer(self, *rows, **more):
         return Peer(self, rows=rows, **more)
